@@ -1,0 +1,1 @@
+"""Reelrows: tapes with labels, files over several reels."""
