@@ -37,15 +37,23 @@ def unblocked(blocks, *, form, block, size):
     check_form(form, block, size)
     if not are_texts(blocks, 1, block):
         raise BadBlock("no list of blocks")
-    if form == "S":
-        return joined_records(blocks, size)
     records = []
+    begun = None
     for text in blocks:
-        if form == "V":
-            records.extend(records_with_lengths(text, size))
-        else:
-            records.extend(records_of_size(text, size))
+        ended, begun = read_block(text, begun, form, size)
+        records.extend(ended)
+    if begun is not None:
+        raise BadBlock("a record without its last part")
     return records
+
+
+def read_block(text, begun, form, size):
+    """The records that end in a block, and what it leaves of a begun one; None is none begun."""
+    if form == "S":
+        return joined_records(text, begun, size)
+    if form == "V":
+        return records_with_lengths(text, size), None
+    return records_of_size(text, size), None
 
 
 def check_form(form, block, size):
@@ -148,11 +156,10 @@ def check_size(record, size):
         raise BadBlock("a record is longer than the size")
 
 
-def joined_records(blocks, size):
-    """The records of blocks of the form "S"."""
+def joined_records(text, begun, size):
+    """The records that end in a block of the form "S", and what it leaves of a begun one."""
     records = []
-    begun = None
-    for sign, part in parts_of(blocks):
+    for sign, part in parts_of(text):
         # A first part or a whole record is due just where none is begun.
         if (sign in (WHOLE, FIRST)) != (begun is None):
             raise BadBlock("a part that is not in its turn")
@@ -161,21 +168,18 @@ def joined_records(blocks, size):
         if sign in (WHOLE, LAST):
             records.append(begun)
             begun = None
-    if begun is not None:
-        raise BadBlock("a record without its last part")
-    return records
+    return records, begun
 
 
-def parts_of(blocks):
-    """The signs and texts of all parts in these blocks."""
+def parts_of(text):
+    """The signs and texts of all parts in a block of the form "S"."""
     parts = []
-    for text in blocks:
-        start = 0
-        while start < len(text):
-            sign = text[start]
-            if sign not in (WHOLE, FIRST, LAST, BETWEEN):
-                raise BadBlock("no sign of a part")
-            part = text_with_length(text, start + 1)
-            parts.append((sign, part))
-            start += PART_HEAD + len(part)
+    start = 0
+    while start < len(text):
+        sign = text[start]
+        if sign not in (WHOLE, FIRST, LAST, BETWEEN):
+            raise BadBlock("no sign of a part")
+        part = text_with_length(text, start + 1)
+        parts.append((sign, part))
+        start += PART_HEAD + len(part)
     return parts

@@ -19,6 +19,13 @@ def check_skip(many):
         raise BadNumber("no number of blocks or marks to skip")
 
 
+def tape_of(row):
+    """How much tape a block takes, or a mark, which is None."""
+    if row is None:
+        return MARK_TAPE
+    return len(row) + BLOCK_GAP
+
+
 class Reel:
     """A reel with its serial, its length and its ring."""
 
@@ -43,17 +50,17 @@ class Reel:
         """Write a block at the place; all behind is lost."""
         if not is_text(block, 1, BLOCK_SIGNS):
             raise BadName("no block")
-        self.write_row(block, len(block) + BLOCK_GAP)
+        self.write_row(block)
 
     def write_mark(self):
         """Write a mark at the place; all behind is lost."""
-        self.write_row(None, MARK_TAPE)
+        self.write_row(None)
 
-    def write_row(self, row, tape):
-        """Write a block or a mark that takes so much tape."""
+    def write_row(self, row):
+        """Write a block, or a mark, which is None."""
         if not self.ringed:
             raise NoRing("the reel has no ring")
-        ahead = self.used() + tape
+        ahead = self.used() + tape_of(row)
         if ahead > self.length + TAPE_BEYOND:
             raise TooLong("the tape is at its end")
         self.cut(self.place)

@@ -48,7 +48,11 @@ def filled(length, tape):
 
 
 def has_ring(reel):
-    twin = copy.deepcopy(reel)
+    # A deep copy would do as well, but this is asked so often that it must be quick.
+    twin = copy.copy(reel)
+    for name, value in vars(reel).items():
+        if isinstance(value, list):
+            setattr(twin, name, list(value))
     twin.rewind()
     try:
         twin.write_mark()
