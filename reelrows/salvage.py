@@ -1,8 +1,8 @@
 """What can still be read of a set with torn reels."""
 
-from reelrows.errors import BadBlock, BadLabel, BadReel, NoReel
+from reelrows.errors import BadBlock, BadLabel, NoReel
 from reelrows.records import read_block
-from reelrows.sets import BEHIND_LABEL, TapeSet, begun_piece, blocks_of, check_piece, place_behind, read_files
+from reelrows.sets import BEHIND_LABEL, begun_piece, blocks_of, check_piece, check_set, place_behind, read_files
 
 
 def salvage(tapes):
@@ -31,12 +31,6 @@ def is_whole_set(tapes):
     except (BadLabel, NoReel):
         return False
     return all(records_left(pieces)[1] for pieces in files)
-
-
-def check_set(tapes):
-    """Refuse what is no set."""
-    if not isinstance(tapes, TapeSet):
-        raise BadReel("no set of reels")
 
 
 def pieces_left(reels, which, begins, number):

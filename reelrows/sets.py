@@ -146,6 +146,12 @@ def are_reels(reels):
     return len({reel.called() for reel in reels}) == len(reels)
 
 
+def check_set(tapes):
+    """Refuse what is no set."""
+    if not isinstance(tapes, TapeSet):
+        raise BadReel("no set of reels")
+
+
 def check_rings(reels):
     """Refuse to write if a reel has no ring."""
     if not all(reel.ringed for reel in reels):

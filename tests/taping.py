@@ -54,9 +54,9 @@ def twenties(many, start=0):
     return ["BLOCK%03d........####" % (start + number) for number in range(many)]
 
 
-def written(lengths, files, owner="NOBODY"):
+def written(lengths, files, owner="NOBODY", letter="R"):
     """What stands on reels R1, R2 .. when these files were put on them, or None if they do not suffice."""
-    tapes = [[vol("R%d" % (number + 1), owner), None, None] for number in range(len(lengths))]
+    tapes = [[vol(letter + str(number + 1), owner), None, None] for number in range(len(lengths))]
     which = 0
     for number, file in enumerate(files, 1):
         tapes[which].pop()
@@ -66,7 +66,7 @@ def written(lengths, files, owner="NOBODY"):
             return None
         left, volume = list(file.blocks), 1
         while True:
-            told = (file.name, "R1", volume, number) + file.told
+            told = (file.name, letter + "1", volume, number) + file.told
             tapes[which] += [label("HDR1", *told, 0), hdr2(file.form), None]
             here = 0
             while left and tape(tapes[which]) < lengths[which]:
@@ -95,8 +95,8 @@ def load(reel, rows, place=0):
         reel.read()
 
 
-def reels_of(lengths):
-    return [Reel("R%d" % (number + 1), length=length) for number, length in enumerate(lengths)]
+def reels_of(lengths, letter="R"):
+    return [Reel(letter + str(number + 1), length=length) for number, length in enumerate(lengths)]
 
 
 def set_of(lengths, rows):
