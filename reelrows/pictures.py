@@ -16,7 +16,7 @@ def shown(place, row):
     """The text for what stands behind the place."""
     if row is None:
         return f"{place}: mark"
-    return f"{place}: {len(row)} block"
+    return f"{place}: {len(row)} {row}"
 
 
 def tape_used(tapes):
